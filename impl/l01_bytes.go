@@ -48,7 +48,7 @@ type TextOut struct {
 	Code int64
 }
 
-// fault is what is wrong with bytes that are read; its code is what the face tells.
+// fault is why something is refused; its code is what the face tells.
 type fault struct {
 	code int64
 }
