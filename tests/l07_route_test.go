@@ -207,31 +207,12 @@ func TestPromise11Nested(t *testing.T) {
 	}
 }
 
-// TestPromise11AllBlocks: all forms of up to seven Items of five sorts, each ItAsk answered.
 func TestPromise11AllBlocks(t *testing.T) {
-	marks := []impl.Item{when(always()), when(never()), otherwise(), end(), askInt("a")}
-	count := 0
-	for size := range 8 {
-		sorts := 1
-		for range size {
-			sorts *= len(marks)
-		}
-		for number := range sorts {
-			l, a := make([]impl.Item, size), []impl.Answer(nil)
-			for at, rest := 0, number; at < size; at, rest = at+1, rest/len(marks) {
-				l[at] = marks[rest%len(marks)]
-				if l[at].Kind == impl.ItAsk {
-					l[at].Name = nameAt(at)
-					a = append(a, answer(nameAt(at), integer(1)))
-				}
-			}
-			if blocksEnd(l) {
-				sameRoute(t, "blocks", impl.RouteOf(l, a), wayOf(l, a))
-				count++
-			}
-		}
+	all := allBlocks()
+	for _, w := range all {
+		sameRoute(t, "blocks", impl.RouteOf(w.l, w.a), wayOf(w.l, w.a))
 	}
-	same(t, fmt.Sprintf("many are right: %d", count), count > 1500, true)
+	same(t, fmt.Sprintf("many are right: %d", len(all)), len(all) > 1500, true)
 }
 
 func TestPromise11Check(t *testing.T) {

@@ -251,13 +251,19 @@ type answered struct {
 	a []impl.Answer
 }
 
+func answersOfForm(r *rand.Rand, l []impl.Item) []answered {
+	var out []answered
+	for range 3 {
+		out = append(out, answered{l, answersFor(r, l)})
+	}
+	return out
+}
+
 func randomWays(seed int64, count int) []answered {
 	r := rand.New(rand.NewSource(seed))
 	var out []answered
 	for _, l := range randomForms(seed, count) {
-		for range 3 {
-			out = append(out, answered{l, answersFor(r, l)})
-		}
+		out = append(out, answersOfForm(r, l)...)
 	}
 	return out
 }
@@ -274,6 +280,32 @@ func handWays() []answered {
 	for _, c := range conditions() {
 		l := append(fieldsAhead(), must("hard", c.n, "{i} {t}?"), when(c.n), check("soft", c.n, "{s}?"), otherwise(), askInt("x"), end(), compute("y", field("i")))
 		out = append(out, answered{l, c.a}, answered{l, withPut(c.a, "x", integer(1))})
+	}
+	return out
+}
+
+// allBlocks are all right forms of up to seven Items of five sorts, each ItAsk answered.
+func allBlocks() []answered {
+	marks := []impl.Item{when(always()), when(never()), otherwise(), end(), askInt("a")}
+	var out []answered
+	for size := range 8 {
+		sorts := 1
+		for range size {
+			sorts *= len(marks)
+		}
+		for number := range sorts {
+			l, a := make([]impl.Item, size), []impl.Answer(nil)
+			for at, rest := 0, number; at < size; at, rest = at+1, rest/len(marks) {
+				l[at] = marks[rest%len(marks)]
+				if l[at].Kind == impl.ItAsk {
+					l[at].Name = nameAt(at)
+					a = append(a, answer(nameAt(at), integer(1)))
+				}
+			}
+			if blocksEnd(l) {
+				out = append(out, answered{l, a})
+			}
+		}
 	}
 	return out
 }
